@@ -1,43 +1,13 @@
 """Point [1]: rules, rows, letters, counts of times, places, and a row grown once."""
 
-import copy
 import unittest
 
+from asking import ALL_LETTERS, LONG, NO_LETTERS, NO_LISTS, NO_NUMBERS, NO_TEXTS, AskingTest
 from growrow.errors import BadLetter, BadPlace, BadRow, BadRules, BadTimes
 from growrow.rules import check_letter, check_place, check_row, check_rules, check_times, grown_once, letters_of
 
-ALL_LETTERS = "abcdefghijklmnopqrstuvwxyz"
-LONG = 200000
-NO_NUMBERS = (True, False, None, "", "0", "1", 0.0, 1.0, float("nan"), float("inf"), 1j, b"0", [], [0], (), (0,), {},
-              {0: 0}, set(), object(), int)
-NO_TEXTS = (None, True, False, 0, 1, 97, 1.5, b"", b"a", bytearray(b"a"), [], ["a"], (), ("a",), {}, {"a": "a"}, {"a"},
-            object(), str)
-# Signs beside the letters in the order of signs, and those that are like letters to the eye or to a loose test.
-NO_LETTERS = ("A", "B", "Z", " ", "\n", "\t", "\r", "`", "{", "0", "1", "_", "-", "~")
 
-
-def shown(handed):
-    try:
-        return repr(handed)[:80]
-    except ValueError:
-        return "a number of too many digits to be shown"
-
-
-class CheckTest(unittest.TestCase):
-    def refused(self, error, check, *handed):
-        with self.subTest(handed=shown(handed)):
-            with self.assertRaises(error) as caught:
-                check(*handed)
-            self.assertIs(type(caught.exception), error)
-
-    def taken(self, check, *handed):
-        with self.subTest(handed=shown(handed)):
-            before = copy.deepcopy(handed)
-            self.assertIsNone(check(*handed))
-            self.assertEqual(handed, before)
-
-
-class RulesTest(CheckTest):
+class RulesTest(AskingTest):
     def test_one_text(self):
         for text in ("", "a", "aa", "a" * LONG):
             self.taken(check_rules, [text])
@@ -57,9 +27,7 @@ class RulesTest(CheckTest):
         self.refused(BadRules, check_rules, ["a"] * 1000)
 
     def test_what_is_no_list(self):
-        others = (("a",), ("ab", "a"), "a", "ab", "", None, True, False, 0, 1, 26, 1.5, {}, {0: "a"}, {"a": "a"}, {"a"},
-                  frozenset({"a"}), b"a", object(), list, range(1), iter(["a"]))
-        for other in others:
+        for other in NO_LISTS:
             self.refused(BadRules, check_rules, other)
 
     def test_something_in_the_list_that_is_no_text(self):
@@ -101,7 +69,7 @@ class LettersOfTest(unittest.TestCase):
             self.assertEqual(letters_of([""] * many), ALL_LETTERS[:many])
 
 
-class RowTest(CheckTest):
+class RowTest(AskingTest):
     def test_rows(self):
         for row in ("", "a", "b", "ab", "ba", "bbbab", "ab" * LONG):
             self.taken(check_row, ["ab", ""], row)
@@ -127,7 +95,7 @@ class RowTest(CheckTest):
             self.refused(BadRow, check_row, ["ab", "a"], other)
 
 
-class LetterTest(CheckTest):
+class LetterTest(AskingTest):
     def test_each_of_the_rules_own_letters(self):
         for many in (1, 2, 25, 26):
             for one in ALL_LETTERS[:many]:
@@ -152,7 +120,7 @@ class LetterTest(CheckTest):
             self.refused(BadLetter, check_letter, ["ab", "a"], other)
 
 
-class TimesTest(CheckTest):
+class TimesTest(AskingTest):
     def test_0_to_300(self):
         for times in range(301):
             self.taken(check_times, times)
@@ -166,7 +134,7 @@ class TimesTest(CheckTest):
             self.refused(BadTimes, check_times, other)
 
 
-class PlaceTest(CheckTest):
+class PlaceTest(AskingTest):
     def test_from_0_to_the_last_one(self):
         for last in (0, 1, 7):
             for place in range(last + 1):
